@@ -1,0 +1,1 @@
+"""Heardonce: a broker of words, and who hears what how often."""

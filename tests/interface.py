@@ -1,0 +1,41 @@
+"""The names of the interface, by the files under which they are listed."""
+
+import importlib
+
+FUNCTIONS = {
+    "names": ("is_topic", "is_wish", "meets", "lesser_way"),
+    "frames": ("is_frame", "frame_octets", "read_frame", "read_all", "joined"),
+    "frametexts": ("frame_text", "read_text"),
+    "worlds": ("is_world", "fresh_world", "free_number", "is_at_rest", "faults_of"),
+    "events": ("is_event", "can_happen", "happened", "happened_all", "events_that_can"),
+    "wishes": ("is_as_wide", "common_wish", "topic_beside"),
+    "wishlots": ("is_lot", "way_in", "topic_between", "idle_wishes", "fewest_wishes"),
+    "wishtrees": (
+        "wish_tree", "is_wish_tree", "lot_of_tree", "met_in_tree", "trees_visited", "tree_with", "tree_without",
+    ),
+    "rights": (
+        "are_rights", "is_let", "part_let", "let_topic", "barred_topic", "idle_rules", "topic_at_odds",
+    ),
+    "cards": ("is_card", "is_possible", "card_events", "card_behind"),
+    "cardways": ("way_to", "is_way_to", "cards_of"),
+    "windows": ("are_sizes", "window_behind", "window_events"),
+}
+
+MESSAGE_ERRORS = (
+    "InvalidFrame", "InvalidTopic", "InvalidWish", "InvalidWay", "InvalidText", "InvalidManner", "InvalidNames",
+    "InvalidSide", "InvalidWorld", "InvalidEvent", "InvalidEvents", "CannotHappen", "InvalidWishes", "InvalidLot",
+    "InvalidWishTree", "InvalidRights", "InvalidDeed", "InvalidCard", "InvalidSizes", "InvalidState", "InvalidSign",
+    "InvalidMemory", "InvalidChange", "InvalidChanges", "CannotChange", "InvalidDisk", "InvalidDiary", "InvalidStop",
+    "InvalidNumber", "Unlike", "InvalidHouse", "InvalidStep", "InvalidSteps", "CannotStep", "InvalidPlan",
+    "InvalidYard", "InvalidLane", "InvalidMark", "InvalidAct", "InvalidActs", "InvalidMesh", "InvalidMeshEvent",
+    "InvalidMeshManner", "InvalidBridges", "InvalidPool", "InvalidTale", "InvalidFacts", "NothingToUndo",
+    "NothingToRedo",
+)
+
+
+def function_of(module, name):
+    return getattr(importlib.import_module(f"heardonce.{module}"), name)
+
+
+def all_functions():
+    return {name: function_of(module, name) for module, names in FUNCTIONS.items() for name in names}
