@@ -24,6 +24,9 @@ ITEMS_OF = {
     "write": ("hands",),
     "stop": ("hands",),
 }
+# The words of the events of which plans are made, and those of all others.
+PLAN_WORDS = ("give", "wish", "unwish")
+OTHER_WORDS = ("pass", "arrive", "lose", "double", "turn", "again", "write", "stop")
 
 
 def is_event_item(sort, value):
@@ -214,17 +217,23 @@ def events_of_side(world, at, name, side):
     return events + [("again", name, side, entry[0]) for entry in part_of(world, giving_path(at, side))]
 
 
-def possible_events(world):
-    """The ascending list of all events that can happen, but for "give", "wish" and "unwish"."""
+def events_with(world, words):
+    """All events with one of some words, none of them a word of plans, that may be able to happen."""
     events = [("write", ""), ("stop", "")]
     for at, name in enumerate(names_of(world)):
         events += [("pass", name), ("write", name), ("stop", name)]
         for side in SIDES:
             events += events_of_side(world, at, name, side)
-    return sorted([event for event in events if behind(world, event) is not None])
+    return [event for event in events if event[0] in words]
+
+
+def ways_on(world, words):
+    """The ascending list of the pairs of each of these events that can happen, and of the world behind it."""
+    pairs = [(event, behind(world, event)) for event in sorted(events_with(world, words))]
+    return [pair for pair in pairs if pair[1] is not None]
 
 
 def events_that_can(world):
     """The ascending list of all events that can happen, but for "give", "wish" and "unwish"."""
     check_world(world)
-    return possible_events(world)
+    return [event for event, _ in ways_on(world, OTHER_WORDS)]

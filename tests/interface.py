@@ -19,6 +19,21 @@ FUNCTIONS = {
     "cards": ("is_card", "is_possible", "card_events", "card_behind"),
     "cardways": ("way_to", "is_way_to", "cards_of"),
     "windows": ("are_sizes", "window_behind", "window_events"),
+    "windowharms": ("are_sound", "window_harm", "is_harm"),
+    "allruns": ("is_state", "state_steps", "state_behind", "has_sign"),
+    "runlots": ("count_states", "layers_of", "ends_of"),
+    "badruns": ("shortest_bad", "least_harm", "is_bad_run"),
+    "closedlots": ("closed_lot", "is_closed_lot"),
+    "calms": ("calmed", "witness"),
+    "logchanges": ("is_memory", "is_change", "can_change", "changed", "changes_between", "change_octets"),
+    "logtracks": ("lot_octets", "begin_octets", "read_track", "read_disk", "resumed"),
+    "stops": (
+        "is_diary", "disk_of", "held_of", "sure_steps", "told_steps", "disk_kept", "is_harmful", "harm_of",
+    ),
+    "sessionhouses": ("is_house", "is_house_step", "house_stepped", "sessions_for", "house_of_world"),
+    "sessionruns": ("house_course", "told_in", "fates_of", "fate_counts"),
+    "sessionterms": ("least_room", "least_keep"),
+    "laneplans": ("is_lane_plan", "lanes_met", "dead_rings", "old_way"),
 }
 
 MESSAGE_ERRORS = (

@@ -1,7 +1,5 @@
 """A second telling of worlds and events, by objects that change, to set beside the program."""
 
-import copy
-
 RANK = {"light": 0, "marked": 1, "paired": 2}
 
 
@@ -17,10 +15,19 @@ class Hand:
         self.taking = set()
         self.waiting = []
 
+    def copied(self):
+        hand = Hand()
+        hand.giving, hand.taking, hand.waiting = dict(self.giving), set(self.taking), list(self.waiting)
+        return hand
+
     def told(self, is_client):
         giving = tuple((number,) + self.giving[number] for number in sorted(self.giving))
         parts = (giving, tuple(sorted(self.taking)))
         return parts if is_client else parts + (tuple(self.waiting),)
+
+
+def copied_hands(hands):
+    return {key: hand.copied() for key, hand in hands.items()}
 
 
 class Model:
@@ -29,11 +36,20 @@ class Model:
         self.names = list(names)
         # By (name, side): the side is that to which the hand gives.
         self.hands = {(name, side): Hand() for name in names for side in ("coming", "going")}
-        self.logs = copy.deepcopy(self.hands)
+        self.logs = copied_hands(self.hands)
         self.frames = {key: [] for key in self.hands}
         self.wishes = {name: {} for name in names}
         self.heard = {name: [] for name in names}
         self.due, self.given, self.owned = [], [], []
+
+    def copied(self):
+        model = Model((self.ring, self.ahead, self.careful), self.names)
+        model.hands, model.logs = copied_hands(self.hands), copied_hands(self.logs)
+        model.frames = {key: list(frames) for key, frames in self.frames.items()}
+        model.wishes = {name: dict(wishes) for name, wishes in self.wishes.items()}
+        model.heard = {name: list(heard) for name, heard in self.heard.items()}
+        model.due, model.given, model.owned = list(self.due), list(self.given), list(self.owned)
+        return model
 
     def world(self):
         clients = tuple(
@@ -61,12 +77,12 @@ class Model:
 
     def behind(self, event):
         """A new model, behind an event; raises Impossible."""
-        model = copy.deepcopy(self)
+        model = self.copied()
         if event[0] not in ("write", "stop") and event[1] not in model.names:
             raise Impossible
         getattr(model, "do_" + event[0])(*event[1:])
         if model.ahead:
-            model.logs = copy.deepcopy(model.hands)
+            model.logs = copied_hands(model.hands)
         if model.too_much():
             raise Impossible
         return model
@@ -186,11 +202,11 @@ class Model:
 
     def do_write(self, name):
         for key in self.keys(name):
-            self.logs[key] = copy.deepcopy(self.hands[key])
+            self.logs[key] = self.hands[key].copied()
 
     def do_stop(self, name):
         for key in self.keys(name):
-            self.hands[key] = copy.deepcopy(self.logs[key])
+            self.hands[key] = self.logs[key].copied()
             for side in ("coming", "going"):
                 self.frames[key[0], side] = []
 

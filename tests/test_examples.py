@@ -6,16 +6,28 @@ from pathlib import Path
 
 from tests.interface import all_functions
 
+MANY_EXAMPLES = 72
+
+
+class Checker(doctest.OutputChecker):
+    """Takes what is wanted as a value, as it may be told by the names of the examples."""
+
+    def __init__(self, names):
+        self.names = names
+
+    def check_output(self, want, got, optionflags):
+        return want == got or repr(eval(want, self.names)) + "\n" == got
+
 
 class Examples(unittest.TestCase):
     def test_examples(self):
         path = Path(__file__).with_name("examples.txt")
         test = doctest.DocTestParser().get_doctest(path.read_text(), all_functions(), "examples", str(path), 0)
         told = []
-        runner = doctest.DocTestRunner(verbose=False)
-        runner.run(test, out=told.append)
+        runner = doctest.DocTestRunner(Checker(test.globs), verbose=False)
+        runner.run(test, out=told.append, clear_globs=False)
         self.assertEqual(runner.summarize(verbose=False).failed, 0, "".join(told))
-        self.assertEqual(len(test.examples), 33)
+        self.assertEqual(len(test.examples), MANY_EXAMPLES)
 
 
 if __name__ == "__main__":

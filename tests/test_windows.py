@@ -267,7 +267,8 @@ class Arguments(ArgumentChecks, unittest.TestCase):
         wrong_events = tuple((GIVE, event) for event in (
             ("give", 0), ("again",), ("again", 81), ("again", -1), ("again", False), ("word", 1), ("lose", "there"),
             ("lose", "there", 12), ("lose", "there", -1), ("lose", "there", True), ("double", "coming", 0),
-            ("turn", "back", None), ("stop",), ("stop", "there", 0), ("lost", "back", 1), ("give", "there", 0), (), None, "give", ["give"], ("lose", ["there"], 0),
+            ("turn", "back", None), ("stop",), ("stop", "there", 0), ("lost", "back", 1), ("give", "there", 0), (), None,
+            "give", ["give"], ("lose", ["there"], 0),
         )) + ((GIVE,) * 201, [GIVE], GIVE)
         for function in (window_behind, window_events):
             self.check_arguments(
