@@ -34,6 +34,13 @@ FUNCTIONS = {
     "sessionruns": ("house_course", "told_in", "fates_of", "fate_counts"),
     "sessionterms": ("least_room", "least_keep"),
     "laneplans": ("is_lane_plan", "lanes_met", "dead_rings", "old_way"),
+    "yards": ("is_yard", "fresh_yard", "place_of_letter", "deaths_in", "ticks_to_rest"),
+    "yardacts": ("is_act", "can_act", "acted", "acted_all", "acts_that_can", "fed"),
+    "meshes": ("is_mesh", "fresh_mesh", "words_had", "is_settled", "mesh_faults"),
+    "meshevents": ("is_mesh_event", "can_in_mesh", "mesh_after", "mesh_after_all", "crossings"),
+    "meshpaths": ("brokers_reached", "paths_between", "rings_of_topic", "comes_to_rest"),
+    "meshruns": ("settled_by", "doubling_run", "is_doubling_run"),
+    "pools": ("is_pool", "fresh_pool", "key_of", "reader_for", "moved_keys"),
 }
 
 MESSAGE_ERRORS = (

@@ -6,7 +6,7 @@ from pathlib import Path
 
 from tests.interface import all_functions
 
-MANY_EXAMPLES = 72
+MANY_EXAMPLES = 90
 
 
 class Checker(doctest.OutputChecker):

@@ -72,6 +72,12 @@ def names_stored(tree):
     ]
 
 
+def own_methods():
+    return {
+        row.name for _, node in nodes(ast.ClassDef) for row in node.body if isinstance(row, ast.FunctionDef)
+    }
+
+
 def call_name(node):
     return node.func.id if isinstance(node, ast.Call) and isinstance(node.func, ast.Name) else None
 
@@ -178,6 +184,7 @@ class Names(unittest.TestCase):
             self.assertFalse(attributes & {"register", "mro", "elements", "open", "input", "law", "args"}, path)
 
     def test_builtins_and_methods(self):
+        methods = METHODS | own_methods()
         for path in files():
             tree = tree_of(path)
             own = set(defined_in(tree)) | {name for _, name in imported_in(tree)} | set(names_stored(tree))
@@ -185,7 +192,7 @@ class Names(unittest.TestCase):
                 if isinstance(node, ast.Name) and node.id not in own:
                     self.assertIn(node.id, BUILTINS, (path, node.lineno))
                 if isinstance(node, ast.Call) and isinstance(node.func, ast.Attribute):
-                    self.assertIn(node.func.attr, METHODS, (path, node.lineno))
+                    self.assertIn(node.func.attr, methods, (path, node.lineno))
                     self.assertFalse(node.keywords, (path, node.lineno))
 
     def test_underscore_is_never_read(self):
