@@ -14,8 +14,12 @@ MOST_RUN_EVENTS = 60
 SIGNS = ("more", "less", "stuck")
 
 
-def is_harm_item(value):
-    return is_integer(value, 0, MOST_HARM)
+def is_harm_told(value):
+    """Tell whether any value is harm."""
+    return (
+        isinstance(value, tuple) and len(value) == len(HARM_WORDS)
+        and all([is_integer(many, 0, MOST_HARM) for many in value])
+    )
 
 
 def is_planned(value):
@@ -25,8 +29,7 @@ def is_planned(value):
 def is_state(value):
     """Tell whether any value is a state."""
     return (
-        isinstance(value, tuple) and len(value) == 3 and is_world(value[0])
-        and is_row(value[1], len(HARM_WORDS), len(HARM_WORDS), is_harm_item)
+        isinstance(value, tuple) and len(value) == 3 and is_world(value[0]) and is_harm_told(value[1])
         and is_row(value[2], 0, MOST_PLANNED, is_planned)
     )
 
@@ -41,6 +44,11 @@ def check_sign(sign):
         raise InvalidSign("not a sign")
 
 
+def harm_behind(harm, at):
+    """The harm that is left behind an event of the sort with an index."""
+    return harm[:at] + (harm[at] - 1,) + harm[at + 1:]
+
+
 def after_step(state, event):
     """The state behind an event, or None if the event is no step."""
     world, harm, plan = state
@@ -48,7 +56,7 @@ def after_step(state, event):
         at = HARM_WORDS.index(event[0])
         if harm[at] == 0:
             return None
-        harm = harm[:at] + (harm[at] - 1,) + harm[at + 1:]
+        harm = harm_behind(harm, at)
     elif event[0] in PLAN_WORDS:
         if plan[:1] != (event,):
             return None
@@ -60,10 +68,13 @@ def after_step(state, event):
 def steps_from(state):
     """The ascending list of the pairs of each step of a state, and of the state behind it."""
     world, harm, plan = state
-    words = list(FREE_WORDS) + [word for word, left in zip(HARM_WORDS, harm) if left > 0]
-    events = sorted(events_with(world, words) + list(plan[:1]))
-    pairs = [(event, after_step(state, event)) for event in events]
-    return [pair for pair in pairs if pair[1] is not None]
+    harms = {word: harm_behind(harm, at) for at, word in enumerate(HARM_WORDS) if harm[at] > 0}
+    events = events_with(world, FREE_WORDS + tuple(harms)) + list(plan[:1])
+    ways = [(event, behind(world, event)) for event in sorted(events)]
+    return [
+        (event, (after, harms.get(event[0], harm), plan[1:] if event[0] in PLAN_WORDS else plan))
+        for event, after in ways if after is not None
+    ]
 
 
 def state_steps(state):
@@ -84,6 +95,11 @@ def state_behind(state, events):
     return state
 
 
+def has_fault(world, sign):
+    """Tell whether a world has a fault whose last item is a sign."""
+    return any([fault[-1] == sign for fault in all_faults(world)])
+
+
 def shows(state, sign):
     """Tell whether a state has a sign, both being known to be such."""
     world = state[0]
@@ -91,7 +107,7 @@ def shows(state, sign):
         return not is_still(world) and not steps_from(state)
     if sign == "less" and not is_still(world):
         return False
-    return any([fault[-1] == sign for fault in all_faults(world)])
+    return has_fault(world, sign)
 
 
 def has_sign(state, sign):

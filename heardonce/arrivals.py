@@ -1,111 +1,129 @@
-"""What words do on their way: how they are given on lines, and what frames do where they arrive."""
+"""What words do on their way: how they are given on lines, and what frames do where they arrive.
+
+Each of these tells None where what would come of it is no world.
+"""
 
 from heardonce.names import greatest_way, is_met, lesser_way
-from heardonce.parts import (
-    DUE, OWNED, frames_path, giving_path, heard_path, other_side, part_of, taking_path, waiting_path, with_more,
-    with_part,
-)
-from heardonce.worlds import frame_number, least_free
-
-
-def without_entry(book, number, way, state):
-    """A giving book without the entry of a number, if that has this way and state."""
-    return tuple(entry for entry in book if entry[:3] != (number, way, state))
+from heardonce.parts import frames_at, memory_at, other_side, with_frames, with_heard, with_memory
+from heardonce.worlds import MOST_FRAMES, MOST_ITEMS, MOST_WAITING, least_free
 
 
 def given_on(world, at, side, word):
-    """The world behind giving a word on a line, or None if no number is free that is needed."""
+    """The world behind giving a word on a line, or None if it can't be given."""
     way, topic, body = word
+    frames = frames_at(world, at, side)
+    if len(frames) == MOST_FRAMES:
+        return None
     if way == "light":
-        return with_more(world, frames_path(at, side), ("word", way, None, False, topic, body))
+        return with_frames(world, at, side, frames + (("word", way, None, False, topic, body),))
     number = least_free(world, at, side)
     if number is None:
         return None
-    book = part_of(world, giving_path(at, side)) + ((number, way, "sent", topic, body),)
-    world = with_part(world, giving_path(at, side), tuple(sorted(book)))
-    return with_more(world, frames_path(at, side), ("word", way, number, False, topic, body))
+    memory = memory_at(world, at, side)
+    book = tuple(sorted(memory[0] + ((number, way, "sent", topic, body),)))
+    world = with_memory(world, at, side, (book,) + memory[1:])
+    return with_frames(world, at, side, frames + (("word", way, number, False, topic, body),))
 
 
-def way_for(session, topic):
-    """The greatest way of the wishes of a session that a topic meets, None if it meets none."""
-    return greatest_way([way for wish, way in session[1] if is_met(topic, wish)])
+def way_due(session, word):
+    """The way in which a word comes to a session, or None if it does not come."""
+    way, topic, _ = word
+    wanted = greatest_way([wished for wish, wished in session[1] if is_met(topic, wish)])
+    return None if wanted is None else lesser_way(way, wanted)
+
+
+def with_word_due(session, way, word):
+    """The session in which a word waits in a way, too; the same one if there is no way."""
+    if way is None:
+        return session
+    name, wishes, (giving, taking, waiting), log = session
+    return name, wishes, (giving, taking, waiting + ((way,) + word[1:],)), log
 
 
 def owned_word(world, at, word):
-    """The world behind the broker's taking in a word from the client with an index."""
-    way, topic, body = word
-    sessions = world[2]
-    world = with_more(world, OWNED, (world[1][at][0], way, topic, body))
-    for index, session in enumerate(sessions):
-        wanted = way_for(session, topic)
-        if wanted is not None:
-            due = (lesser_way(way, wanted), topic, body)
-            world = with_more(world, DUE, (session[0],) + due)
-            world = with_more(world, waiting_path(index), due)
-    return world
+    """The world behind the broker's taking in a word from the client with an index, or None if it is none."""
+    manner, clients, sessions, lines, due, given, owned = world
+    ways = [way_due(session, word) for session in sessions]
+    due = due + tuple([(session[0], way) + word[1:] for session, way in zip(sessions, ways) if way is not None])
+    sessions = tuple([with_word_due(session, way, word) for session, way in zip(sessions, ways)])
+    owned = owned + ((clients[at][0],) + word,)
+    if len(due) > MOST_ITEMS or len(owned) > MOST_ITEMS:
+        return None
+    if any([len(session[2][2]) > MOST_WAITING for session in sessions]):
+        return None
+    return manner, clients, sessions, lines, due, given, owned
 
 
 def taken_in(world, at, side, word):
-    """The world behind the taking in of a word that came on a side of a line."""
+    """The world behind the taking in of a word that came on a side of a line, or None if it is none."""
     if side == "coming":
         return owned_word(world, at, word)
-    return with_more(world, heard_path(at), word[1:])
+    heard = world[1][at][3]
+    return with_heard(world, at, heard + (word[1:],)) if len(heard) < MOST_ITEMS else None
+
+
+def answered(world, at, side, frame):
+    """The world in which a frame goes back for one that came on a side of a line, or None if it is none."""
+    back = other_side(side)
+    frames = frames_at(world, at, back)
+    return with_frames(world, at, back, frames + (frame,)) if len(frames) < MOST_FRAMES else None
 
 
 def word_arrived(world, at, side, frame):
     _, way, number, _, topic, body = frame
     back = other_side(side)
-    taking = part_of(world, taking_path(at, back))
-    if way != "paired" or number not in taking:
+    memory = memory_at(world, at, back)
+    if way != "paired" or number not in memory[1]:
         world = taken_in(world, at, side, (way, topic, body))
-    if way == "paired" and number not in taking:
-        world = with_part(world, taking_path(at, back), tuple(sorted(taking + (number,))))
+        if world is None:
+            return None
     if way == "light":
         return world
-    return with_more(world, frames_path(at, back), ("heard" if way == "marked" else "taken", number))
+    if way == "paired" and number not in memory[1]:
+        # Taking in may have changed what else is in this memory.
+        memory = memory_at(world, at, back)
+        world = with_memory(world, at, back, memory[:1] + (tuple(sorted(memory[1] + (number,))),) + memory[2:])
+    return answered(world, at, side, ("heard" if way == "marked" else "taken", number))
 
 
-def heard_arrived(world, at, side, number):
-    path = giving_path(at, other_side(side))
-    return with_part(world, path, without_entry(part_of(world, path), number, "marked", "sent"))
+def without_entry(world, at, side, key):
+    """The world without the entry of a hand that begins like this, if there is one."""
+    memory = memory_at(world, at, side)
+    book = tuple([entry for entry in memory[0] if entry[:3] != key])
+    return world if len(book) == len(memory[0]) else with_memory(world, at, side, (book,) + memory[1:])
 
 
 def taken_arrived(world, at, side, number):
     back = other_side(side)
-    ahead = [frame_number(frame) for frame in part_of(world, frames_path(at, back)) if frame[0] == "word"]
-    if world[0][2] and number in ahead:
+    if world[0][2] and number in [frame[2] for frame in frames_at(world, at, back) if frame[0] == "word"]:
         return world
-    book = tuple(
-        entry[:2] + ("let",) + entry[3:] if entry[:2] == (number, "paired") else entry
-        for entry in part_of(world, giving_path(at, back))
-    )
-    return with_more(with_part(world, giving_path(at, back), book), frames_path(at, back), ("let", number))
+    memory = memory_at(world, at, back)
+    book = tuple([
+        (number, "paired", "let") + entry[3:] if entry[:2] == (number, "paired") else entry for entry in memory[0]
+    ])
+    return answered(with_memory(world, at, back, (book,) + memory[1:]), at, side, ("let", number))
 
 
 def let_arrived(world, at, side, number):
     back = other_side(side)
-    taking = tuple(held for held in part_of(world, taking_path(at, back)) if held != number)
-    return with_more(with_part(world, taking_path(at, back), taking), frames_path(at, back), ("done", number))
-
-
-def done_arrived(world, at, side, number):
-    path = giving_path(at, other_side(side))
-    return with_part(world, path, without_entry(part_of(world, path), number, "paired", "let"))
+    memory = memory_at(world, at, back)
+    taking = tuple([held for held in memory[1] if held != number])
+    return answered(with_memory(world, at, back, memory[:1] + (taking,) + memory[2:]), at, side, ("done", number))
 
 
 def arrived(world, at, side):
-    """The world behind the arrival of the first frame on a side of a line, or None if there is none."""
-    frames = part_of(world, frames_path(at, side))
+    """The world behind the arrival of the first frame on a side of a line, or None if that can't happen."""
+    frames = frames_at(world, at, side)
     if not frames:
         return None
     frame = frames[0]
-    world = with_part(world, frames_path(at, side), frames[1:])
+    world = with_frames(world, at, side, frames[1:])
     if frame[0] == "word":
         return word_arrived(world, at, side, frame)
     if frame[0] == "heard":
-        return heard_arrived(world, at, side, frame[1])
+        return without_entry(world, at, other_side(side), (frame[1], "marked", "sent"))
     if frame[0] == "taken":
         return taken_arrived(world, at, side, frame[1])
     if frame[0] == "let":
         return let_arrived(world, at, side, frame[1])
-    return done_arrived(world, at, side, frame[1])
+    return without_entry(world, at, other_side(side), (frame[1], "paired", "let"))

@@ -3,7 +3,7 @@
 from heardonce.allruns import MOST_RUN_EVENTS, after_step, check_sign, check_state, shows
 from heardonce.errors import TooMany
 from heardonce.events import is_event
-from heardonce.runlots import MOST_STATES, shortest_runs
+from heardonce.runlots import MOST_STATES, Lot
 
 MOST_HARMS = 4
 
@@ -12,11 +12,9 @@ def shortest_bad(state, sign):
     """The first one, in ascending order, of the shortest bad runs for a sign, or None."""
     check_state(state)
     check_sign(sign)
-    runs = shortest_runs(state, MOST_STATES)
-    for reached, run in runs.items():
-        if shows(reached, sign):
-            return run
-    return None
+    lot = Lot(state, MOST_STATES)
+    signs = lot.signs(sign)
+    return lot.run_to(signs.index(True)) if True in signs else None
 
 
 def harm_done(harm, left):
@@ -27,14 +25,14 @@ def least_harm(state, sign):
     """The first one of all harms, lesser sums ahead, with which a state has a bad run for a sign, or None."""
     check_state(state)
     check_sign(sign)
-    runs = shortest_runs(state, MOST_STATES)
+    lot = Lot(state, MOST_STATES)
     if sum(state[1]) > MOST_HARMS:
         raise TooMany(MOST_HARMS)
     none_left = (0,) * len(state[1])
     # A run needs just the harm that is done in it. What is left of it
     # never gives a sign: it gives more steps, and "stuck" needs there to be none.
     done = [
-        harm_done(state[1], left) for world, left, plan in list(runs) if shows((world, none_left, plan), sign)
+        harm_done(state[1], left) for world, left, plan in lot.states() if shows((world, none_left, plan), sign)
     ]
     return min(done, key=lambda harm: (sum(harm), harm), default=None)
 

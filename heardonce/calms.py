@@ -2,7 +2,7 @@
 
 from heardonce.allruns import check_sign
 from heardonce.errors import InvalidManner
-from heardonce.events import ways_on
+from heardonce.events import behind, events_with
 from heardonce.worlds import check_world, empty_world, is_manner
 
 MOST_CALM = 200
@@ -14,23 +14,24 @@ COMING = ("arrive", "ann", "coming")
 GOING = ("arrive", "ann", "going")
 
 
-def calm_ways(world):
-    """All ways on from a world by the first sort of calm events of which any can happen."""
+def calm_way(world):
+    """The pair of the next event by which a world is calmed, and of the world behind it, or None if there is none."""
     for word in CALM_WORDS:
-        ways = ways_on(world, (word,))
-        if ways:
-            return ways
-    return []
+        for event in sorted(events_with(world, (word,))):
+            after = behind(world, event)
+            if after is not None:
+                return event, after
+    return None
 
 
 def calmed(world):
     """A world calmed, and the tuple of the events done."""
     check_world(world)
-    events, ways = (), calm_ways(world)
-    while ways and len(events) < MOST_CALM:
-        event, world = ways[0]
+    events, way = (), calm_way(world)
+    while way is not None and len(events) < MOST_CALM:
+        event, world = way
         events += (event,)
-        ways = calm_ways(world)
+        way = calm_way(world)
     return world, events
 
 

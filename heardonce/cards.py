@@ -14,7 +14,7 @@ def is_card(value):
     """Tell whether any value is a card."""
     return (
         isinstance(value, tuple) and len(value) == 7 and value[0] in CARD_WAYS and value[1] in STATES
-        and isinstance(value[2], bool) and all(is_integer(many, 0, MOST_FRAMES) for many in value[3:])
+        and isinstance(value[2], bool) and all([is_integer(many, 0, MOST_FRAMES) for many in value[3:]])
     )
 
 

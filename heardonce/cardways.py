@@ -2,7 +2,7 @@
 
 from heardonce.cards import behind_deed, can_be, check_card, empty_card, possible_deeds
 from heardonce.names import WAYS
-from heardonce.parts import frames_path, giving_path, other_side, part_of, taking_path
+from heardonce.parts import frames_at, memory_at, other_side
 from heardonce.worlds import check_name_in, check_side, check_world, names_of
 
 MOST_DEEDS = 100
@@ -92,13 +92,13 @@ def count_frames(frames, word, number, way):
 def card_at(world, at, side, number, way):
     """The card of a number, in a way, of words that go to a side of the line with an index."""
     back = other_side(side)
-    ahead, behind = part_of(world, frames_path(at, side)), part_of(world, frames_path(at, back))
-    states = [entry[2] for entry in part_of(world, giving_path(at, side)) if entry[:2] == (number, way)]
+    ahead, behind = frames_at(world, at, side), frames_at(world, at, back)
+    states = [entry[2] for entry in memory_at(world, at, side)[0] if entry[:2] == (number, way)]
     state = states[0] if states else "none"
     words = count_frames(ahead, "word", number, way)
     if way == "marked":
         return way, state, False, words, count_frames(behind, "heard", number, way), 0, 0
-    held = number in part_of(world, taking_path(at, back))
+    held = number in memory_at(world, at, back)[1]
     lets, dones = count_frames(ahead, "let", number, way), count_frames(behind, "done", number, way)
     return way, state, held, words, count_frames(behind, "taken", number, way), lets, dones
 

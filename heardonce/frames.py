@@ -57,7 +57,7 @@ def is_frame(value):
     if not isinstance(value, tuple) or not value or not isinstance(value[0], str) or value[0] not in ITEMS_OF:
         return False
     sorts = ITEMS_OF[value[0]]
-    if len(value) != 1 + len(sorts) or not all(is_item(sort, item) for sort, item in zip(sorts, value[1:])):
+    if len(value) != 1 + len(sorts) or not all([is_item(sort, item) for sort, item in zip(sorts, value[1:])]):
         return False
     return value[0] != "word" or has_right_mark(value)
 
@@ -133,15 +133,15 @@ def can_go_on(sort, begun, left):
     elif last != "+":
         most = MOST_LETTERS - len(last)
     # Each step more takes a "/", and one letter to six of them.
-    return any(
+    return any([
         least + 2 * more <= left <= most + (MOST_LETTERS + 1) * more for more in range(steps_left + 1)
-    )
+    ])
 
 
 def is_begun_right(sort, begun):
     """Tell whether all steps of the begin of a text, but for how many they are, may be those of a sort."""
     *done, last = begun.split("/")
-    if not all(step == "+" or is_name(step) for step in done):
+    if not all([step == "+" or is_name(step) for step in done]):
         return False
     if sort != "wish" and ("+" in begun or "#" in begun):
         return False

@@ -3,7 +3,6 @@
 from heardonce.checks import is_integer
 from heardonce.errors import InvalidTopic, InvalidWay, InvalidWish
 
-LETTERS = "abcdefghijklmnopqrstuvwxyz"
 MOST_LETTERS = 6
 MOST_STEPS = 5
 # The lesser ways stand first.
@@ -11,7 +10,9 @@ WAYS = ("light", "marked", "paired")
 
 
 def is_name(value):
-    return isinstance(value, str) and 1 <= len(value) <= MOST_LETTERS and all(sign in LETTERS for sign in value)
+    if not isinstance(value, str) or not 1 <= len(value) <= MOST_LETTERS:
+        return False
+    return value.isascii() and value.isalpha() and value.islower()
 
 
 def is_topic(value):
@@ -19,7 +20,7 @@ def is_topic(value):
     if not isinstance(value, str):
         return False
     steps = value.split("/")
-    return len(steps) <= MOST_STEPS and all(is_name(step) for step in steps)
+    return len(steps) <= MOST_STEPS and all([is_name(step) for step in steps])
 
 
 def is_wish(value):
@@ -31,7 +32,7 @@ def is_wish(value):
         return False
     if steps[-1] == "#":
         steps = steps[:-1]
-    return all(step == "+" or is_name(step) for step in steps)
+    return all([step == "+" or is_name(step) for step in steps])
 
 
 def is_body(value):
@@ -59,11 +60,13 @@ def check_way(way):
 
 def is_met(topic, wish):
     """Tell whether a topic meets a wish, both being known to be such."""
+    if wish in ("#", topic):
+        return True
     steps, wanted = topic.split("/"), wish.split("/")
     if wanted[-1] == "#":
         wanted = wanted[:-1]
         steps = steps[:len(wanted)]
-    return len(steps) == len(wanted) and all(want in ("+", step) for want, step in zip(wanted, steps))
+    return len(steps) == len(wanted) and all([want in ("+", step) for want, step in zip(wanted, steps)])
 
 
 def meets(topic, wish):
@@ -87,4 +90,5 @@ def lesser_way(one, other):
 
 def greatest_way(ways):
     """The greatest one of a list of ways, or None of an empty one."""
-    return max(ways, key=lambda way: WAYS.index(way), default=None)
+    found = [way for way in ("paired", "marked", "light") if way in ways]
+    return found[0] if found else None

@@ -119,7 +119,7 @@ def is_idle_for(rights, index, deed):
 def idle_rules(rights):
     """The ascending list of the indices of the rules each of which can be left out by itself."""
     check_rights(rights)
-    return [index for index in range(len(rights)) if all(is_idle_for(rights, index, deed) for deed in DEEDS)]
+    return [index for index in range(len(rights)) if all([is_idle_for(rights, index, deed) for deed in DEEDS])]
 
 
 def topic_at_odds(rights, other_rights, deed):

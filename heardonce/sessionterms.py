@@ -1,10 +1,12 @@
 """The least room and the least keep with which nothing is lost."""
 
-from heardonce.housesteps import session_of, stepped
+from heardonce.housesteps import MOST_SESSIONS, MOST_TURN, session_of, stepped
 from heardonce.sessionhouses import check_house, check_name, check_steps
 from heardonce.worlds import MOST_WAITING
 
 MOST_TRIED_KEEP = 60
+# More turns than there are in any steps.
+UNENDING = 1000
 
 
 def with_item(row, at, item):
@@ -57,18 +59,76 @@ def least_room(house, steps, name):
     check_steps(steps)
     check_name(name)
     session = session_of(house, name)
-    waiting = 0 if session is None else len(session[4])
-    rooms = [room for room in range(max(1, waiting), MOST_WAITING + 1) if has_room(house, steps, name, room)]
-    return rooms[0] if rooms else None
+    least, most = max(1, 0 if session is None else len(session[4])), MOST_WAITING
+    if not has_room(house, steps, name, most):
+        return None
+    # Where no word is dropped, all goes as with any greater room: what is enough once is enough from there on.
+    while least < most:
+        middle = (least + most) // 2
+        if has_room(house, steps, name, middle):
+            most = middle
+        else:
+            least = middle + 1
+    return most
 
 
-def lives_on(house, steps, name, keep):
-    """Tell whether with a keep no session of a name ends by being left alone."""
-    done = done_steps(house_with(house, name, 0, keep), steps_with(steps, name, 0, keep))
-    # With a greater keep than 0 a session that ends by "open" does so only as a fresh one is asked for.
-    return not any([
-        ("ended", name) in told and (step[0] != "open" or keep == 0) for step, told in done
-    ])
+class Leavings:
+    """Which sessions there are, and how long those of a name are left alone, if none of these ever ends by it.
+
+    What waits, and what is wished, never tells whether a session goes on.
+    """
+
+    def __init__(self, house, name):
+        self.name = name
+        self.turn = house[0]
+        self.states = {session[0]: session[1] for session in house[1]}
+        self.keeps = {session[0]: session[2][0] for session in house[1]}
+        self.alone = 0
+        # The least keep with which this name goes on up to here.
+        self.needed = 0 if self.is_open(name) or name not in self.states else 1
+
+    def is_open(self, name):
+        return self.states.get(name, 0) == "open"
+
+    def leave(self, name):
+        """Leave an open session alone."""
+        if name == self.name:
+            self.states[name], self.alone, self.needed = UNENDING, 0, max(1, self.needed)
+        elif self.keeps[name] == 0:
+            del self.states[name]
+        else:
+            self.states[name] = self.keeps[name]
+
+    def begin(self, name, keep):
+        """Open a session, if there is room for one."""
+        if self.is_open(name):
+            self.leave(name)
+        if name in self.states or len(self.states) < MOST_SESSIONS:
+            self.states[name], self.keeps[name] = "open", keep
+
+    def turn_on(self):
+        """Let a turn go by, if one more can."""
+        if self.turn == MOST_TURN:
+            return
+        self.turn += 1
+        for name in [one for one in self.states if not self.is_open(one)]:
+            self.states[name] -= 1
+            if name == self.name:
+                self.alone += 1
+                self.needed = max(self.needed, self.alone + 1)
+            if self.states[name] == 0:
+                del self.states[name]
+                # The few turns that were left to it in the house are over, whatever its keep is.
+                self.needed = MOST_TRIED_KEEP + 1 if name == self.name else self.needed
+
+    def pass_by(self, step):
+        """Do a step, as far as it tells which sessions there are."""
+        if step[0] == "open":
+            self.begin(step[1], step[3][0])
+        elif step[0] == "turn":
+            self.turn_on()
+        elif step[0] in ("shut", "break") and self.is_open(step[1]):
+            self.leave(step[1])
 
 
 def least_keep(house, steps, name):
@@ -76,7 +136,7 @@ def least_keep(house, steps, name):
     check_house(house)
     check_steps(steps)
     check_name(name)
-    session = session_of(house, name)
-    least = 0 if session is None or session[1] == "open" else 1
-    keeps = [keep for keep in range(least, MOST_TRIED_KEEP + 1) if lives_on(house, steps, name, keep)]
-    return keeps[0] if keeps else None
+    leavings = Leavings(house, name)
+    for step in steps:
+        leavings.pass_by(step)
+    return leavings.needed if leavings.needed <= MOST_TRIED_KEEP else None

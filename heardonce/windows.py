@@ -140,7 +140,7 @@ def state_after(sizes, events):
 
 
 def check_window_events(events):
-    if not isinstance(events, tuple) or len(events) > MOST_EVENTS or not all(is_window_event(one) for one in events):
+    if not isinstance(events, tuple) or len(events) > MOST_EVENTS or not all([is_window_event(one) for one in events]):
         raise InvalidEvents("not a tuple of window events")
 
 

@@ -2,8 +2,9 @@
 
 from heardonce.checks import is_row
 from heardonce.errors import InvalidWishes
-from heardonce.names import LETTERS, MOST_STEPS, check_wish, is_met, is_wish
+from heardonce.names import MOST_STEPS, check_wish, is_met, is_wish
 
+LETTERS = "abcdefghijklmnopqrstuvwxyz"
 MOST_WISHES = 12
 
 
@@ -18,7 +19,7 @@ def pattern(wish, many):
 
 def covers(wide, narrow):
     """Tell whether each topic that meets a pattern of as many steps meets the wide one, too."""
-    return all(step in ("+", other) for step, other in zip(wide, narrow))
+    return all([step in ("+", other) for step, other in zip(wide, narrow)])
 
 
 def is_wider(wish, other):
@@ -87,7 +88,7 @@ def topic_beyond(wish, others):
         steps = pattern(wish, many)
         if steps is not None:
             topic = "/".join([fresh if step == "+" else step for step in steps])
-            if not any(is_met(topic, other) for other in others):
+            if not any([is_met(topic, other) for other in others]):
                 return topic
     return None
 

@@ -69,7 +69,7 @@ def told_patterns(lot, many):
 
 def is_told(told, steps, way):
     """Tell whether one of some pairs (pattern, way) tells a pattern in a way, or in a greater one."""
-    return any(covers(wide, steps) and is_way_up_to(way, greater) for wide, greater in told)
+    return any([covers(wide, steps) and is_way_up_to(way, greater) for wide, greater in told])
 
 
 def needed_patterns(told):

@@ -62,7 +62,7 @@ def rows_of(tree, done):
 def lot_in(value):
     """The lot of any value, taken for a wish tree, or None if it is none."""
     rows = rows_of(value, [])
-    if rows is None or not all(isinstance(way, str) for _, way in rows):
+    if rows is None or not all([isinstance(way, str) for _, way in rows]):
         return None
     lot = tuple(sorted(rows))
     # Names out of order, and steps where none may be, show in the tree of the lot.

@@ -4,14 +4,19 @@ from heardonce.checks import is_integer, is_rising, is_row
 from heardonce.errors import InvalidManner, InvalidNames, InvalidSide, InvalidWorld
 from heardonce.frames import is_frame, is_number
 from heardonce.names import is_body, is_name, is_topic, is_way, is_wish
+from heardonce.parts import memory_at
 
 MOST_CLIENTS = 4
 MOST_WISHES = 4
 MOST_FRAMES = 12
 MOST_WAITING = 12
 MOST_ITEMS = 100
-ON_LINES = ("word", "heard", "taken", "let", "done")
+# The words of the frames on lines but for "word", which alone has six items.
+ANSWERS = ("heard", "taken", "let", "done")
 SIDES = ("coming", "going")
+# The empty memories of a client, and of a session.
+NO_BOOKS = ((), ())
+NO_BOOKS_OR_WORDS = ((), (), ())
 
 
 def is_manner(value):
@@ -23,7 +28,9 @@ def is_manner(value):
 
 def are_names(value):
     """Tell whether any value is an ascending tuple of as many names as a world may have."""
-    return is_row(value, 1, MOST_CLIENTS, is_name) and is_rising(value)
+    if not isinstance(value, tuple) or not 1 <= len(value) <= MOST_CLIENTS:
+        return False
+    return all([is_name(name) for name in value]) and is_rising(value)
 
 
 def is_word(value):
@@ -43,14 +50,16 @@ def is_entry(value):
 
 
 def is_giving_book(value):
-    return is_row(value, 0, 8, is_entry) and is_rising([entry[0] for entry in value])
+    return value == () or (is_row(value, 0, 8, is_entry) and is_rising([entry[0] for entry in value]))
 
 
 def is_taking_book(value):
-    return is_row(value, 0, 8, is_number) and is_rising(value)
+    return value == () or (is_row(value, 0, 8, is_number) and is_rising(value))
 
 
 def is_client_memory(value):
+    if value == NO_BOOKS:
+        return True
     return isinstance(value, tuple) and len(value) == 2 and is_giving_book(value[0]) and is_taking_book(value[1])
 
 
@@ -86,29 +95,37 @@ def are_wish_pairs(value, most):
 
 
 def is_session(value):
+    """Tell whether any value is a session, whatever stands for its name."""
     if not isinstance(value, tuple) or len(value) != 4:
         return False
-    name, wishes, memory, log = value
-    return (
-        is_name(name) and are_wish_pairs(wishes, MOST_WISHES)
-        and is_session_memory(memory) and is_session_memory(log)
-    )
+    _, wishes, memory, log = value
+    return are_wish_pairs(wishes, MOST_WISHES) and is_session_memory(memory) and is_session_memory(log)
 
 
 def is_line_frame(value):
-    return is_frame(value) and value[0] in ON_LINES
+    if not isinstance(value, tuple):
+        return False
+    if len(value) == 2:
+        return value[0] in ANSWERS and is_number(value[1])
+    return len(value) == 6 and is_frame(value)
 
 
 def is_line(value):
+    """Tell whether any value is a line, whatever stands for its name."""
     return (
-        isinstance(value, tuple) and len(value) == 3 and is_name(value[0])
+        isinstance(value, tuple) and len(value) == 3
         and is_row(value[1], 0, MOST_FRAMES, is_line_frame) and is_row(value[2], 0, MOST_FRAMES, is_line_frame)
     )
 
 
-def is_told_word(value):
-    """Tell whether any value is a quadruple (name, way, topic, body)."""
-    return isinstance(value, tuple) and len(value) == 4 and is_name(value[0]) and is_word(value[1:])
+def are_told_words(value, names):
+    """Tell whether any value is a tuple of quadruples (name, way, topic, body) with some of these names."""
+    if not isinstance(value, tuple) or len(value) > MOST_ITEMS:
+        return False
+    for word in value:
+        if not isinstance(word, tuple) or len(word) != 4 or word[0] not in names or not is_word(word[1:]):
+            return False
+    return True
 
 
 def frame_number(frame):
@@ -146,10 +163,9 @@ def is_world(value):
         return False
     if [session[0] for session in sessions] != names or [line[0] for line in lines] != names:
         return False
-    for words in told:
-        if not is_row(words, 0, MOST_ITEMS, is_told_word) or not all(word[0] in names for word in words):
-            return False
-    return all(number is None or number < manner[0] for number in numbers_of(clients, sessions, lines))
+    if not all([are_told_words(words, names) for words in told]):
+        return False
+    return all([number is None or number < manner[0] for number in numbers_of(clients, sessions, lines)])
 
 
 def check_world(world):
@@ -171,23 +187,12 @@ def check_name_in(world, name):
         raise InvalidNames("not a name of the world")
 
 
-def has_room(world):
-    """Tell whether in what would be a world there is not too much of anything."""
-    return (
-        all(len(client[3]) <= MOST_ITEMS for client in world[1])
-        and all(len(session[1]) <= MOST_WISHES and len(session[2][2]) <= MOST_WAITING for session in world[2])
-        and all(len(line[1]) <= MOST_FRAMES and len(line[2]) <= MOST_FRAMES for line in world[3])
-        and all(len(words) <= MOST_ITEMS for words in world[4:])
-    )
-
-
 def empty_world(manner, names):
-    empty, empty_waiting = ((), ()), ((), (), ())
     return (
         manner,
-        tuple((name, empty, empty, ()) for name in names),
-        tuple((name, (), empty_waiting, empty_waiting) for name in names),
-        tuple((name, (), ()) for name in names),
+        tuple([(name, NO_BOOKS, NO_BOOKS, ()) for name in names]),
+        tuple([(name, (), NO_BOOKS_OR_WORDS, NO_BOOKS_OR_WORDS) for name in names]),
+        tuple([(name, (), ()) for name in names]),
         (), (), (),
     )
 
@@ -201,17 +206,12 @@ def fresh_world(manner, names):
     return empty_world(manner, names)
 
 
-def memory_at(world, at, side):
-    """The memory of the hand that gives to a side of the line with an index."""
-    return world[1][at][1] if side == "coming" else world[2][at][2]
-
-
 def least_free(world, at, side):
     """The least number that is free for the hand that gives to a side of the line with an index, or None."""
     ring, _, careful = world[0]
     barred = [entry[0] for entry in memory_at(world, at, side)[0]]
     if careful:
-        barred += [frame_number(frame) for frame in world[3][at][1] + world[3][at][2]]
+        barred = barred + [frame_number(frame) for frame in world[3][at][1] + world[3][at][2]]
     free = [number for number in range(ring) if number not in barred]
     return free[0] if free else None
 
@@ -224,16 +224,12 @@ def free_number(world, name, side):
     return least_free(world, names_of(world).index(name), side)
 
 
-def is_empty_hand(memory):
-    return not any(len(part) for part in memory)
-
-
 def is_still(world):
     """Tell whether a world is at rest, it being known to be one."""
     return (
-        all(is_empty_hand(client[1]) and is_empty_hand(client[2]) for client in world[1])
-        and all(is_empty_hand(session[2]) and is_empty_hand(session[3]) for session in world[2])
-        and not any(line[1] or line[2] for line in world[3])
+        all([line[1] == () and line[2] == () for line in world[3]])
+        and all([client[1] == NO_BOOKS and client[2] == NO_BOOKS for client in world[1]])
+        and all([session[2] == NO_BOOKS_OR_WORDS and session[3] == NO_BOOKS_OR_WORDS for session in world[2]])
     )
 
 

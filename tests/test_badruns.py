@@ -6,7 +6,7 @@ from itertools import product
 
 from heardonce.allruns import has_sign, state_behind, state_steps
 from heardonce.badruns import is_bad_run, least_harm, shortest_bad
-from heardonce.closedlots import closed_lot
+from heardonce.closedlots import closed_lot, is_closed_lot
 from heardonce.errors import CannotHappen, InvalidSign, InvalidState, TooMany
 from heardonce.runlots import count_states
 from heardonce.worlds import fresh_world
@@ -62,6 +62,17 @@ class Shortest(unittest.TestCase):
     def test_no_bad_run(self):
         self.assertIsNone(shortest_bad((CAREFUL, NONE, (GIVE,)), "stuck"))
         self.assertIsNone(shortest_bad((CAREFUL, (0, 1, 1, 0, 0, 0), (GIVE, OTHER)), "more"))
+
+    def test_one_word_with_harm_of_four_sorts(self):
+        state = (fresh_world((1, True, True), ("a",)), (1, 1, 1, 1, 0, 0), (("give", "a", "paired", "t", 5),))
+        self.assertEqual(count_states(state), 281)
+        for sign in ("more", "less"):
+            self.assertIsNone(shortest_bad(state, sign))
+            self.assertEqual(len(closed_lot(state, sign)), 281)
+            self.assertIs(is_closed_lot(state, sign, closed_lot(state, sign)), True)
+        # With as many losses as are told, something is stuck at some end of the lot.
+        self.assertEqual(is_bad_run(state, "stuck", shortest_bad(state, "stuck")), True)
+        self.assertIsNone(closed_lot(state, "stuck"))
 
     def test_no_event_is_needed(self):
         state = state_behind((CAREFUL, (1, 0, 0, 0, 0, 0), (GIVE,)), (GIVE, ("lose", "ann", "coming", 0)))

@@ -108,6 +108,30 @@ class Keep(unittest.TestCase):
         self.assertEqual(least_keep(house, (("shut", "bob"),) + rest, "ann"), 3)
 
 
+class ManySteps(unittest.TestCase):
+    """Sixty steps with six sessions to which all words come."""
+
+    def test_words_that_drop_no_session(self):
+        terms = (60, 12, "elder", None)
+        opens = tuple(("open", name, False, terms) for name in "abcdef")
+        wishes = tuple(("wish", name, "#", "marked") for name in "abcdef")
+        steps = opens + wishes + (("tell", "light", "a/b", 7),) * 48
+        self.assertEqual(len(steps), 60)
+        for name in "abcdef":
+            self.assertEqual(least_keep(EMPTY, steps, name), 0)
+            self.assertIsNone(least_room(EMPTY, steps, name))
+        self.assertEqual(least_keep(EMPTY, opens + (("shut", "a"),) + (TURN,) * 53, "a"), 54)
+        self.assertEqual(least_room(EMPTY, opens + wishes + (("tell", "light", "a/b", 7),) * 12, "f"), 12)
+
+    def test_a_name_that_comes_too_late(self):
+        # While six others are there, none is opened, and so none can be left alone.
+        opens = tuple(("open", name, False, (5, 1, "elder", None)) for name in "abcdefg")
+        self.assertEqual(least_keep(EMPTY, opens + (("shut", "g"), TURN), "g"), 0)
+        late = (("shut", "a"),) + (TURN,) * 5 + (opens[6], ("break", "g"), TURN, TURN)
+        self.assertEqual(least_keep(EMPTY, opens + late, "g"), 3)
+        self.assertEqual(least_keep(EMPTY, opens[:6] + late[:5] + late[6:], "g"), 0)
+
+
 class BesideAnotherTelling(unittest.TestCase):
     def test_all_rooms_and_keeps(self):
         dice = random.Random(72)
