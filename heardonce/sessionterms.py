@@ -81,43 +81,43 @@ class Leavings:
     def __init__(self, house, name):
         self.name = name
         self.turn = house[0]
-        self.states = {session[0]: session[1] for session in house[1]}
+        self.left = {session[0]: session[1] for session in house[1]}
         self.keeps = {session[0]: session[2][0] for session in house[1]}
         self.alone = 0
         # The least keep with which this name goes on up to here.
-        self.needed = 0 if self.is_open(name) or name not in self.states else 1
+        self.needed = 0 if self.is_open(name) or name not in self.left else 1
 
     def is_open(self, name):
-        return self.states.get(name, 0) == "open"
+        return self.left.get(name, 0) == "open"
 
     def leave(self, name):
         """Leave an open session alone."""
         if name == self.name:
-            self.states[name], self.alone, self.needed = UNENDING, 0, max(1, self.needed)
+            self.left[name], self.alone, self.needed = UNENDING, 0, max(1, self.needed)
         elif self.keeps[name] == 0:
-            del self.states[name]
+            del self.left[name]
         else:
-            self.states[name] = self.keeps[name]
+            self.left[name] = self.keeps[name]
 
     def begin(self, name, keep):
         """Open a session, if there is room for one."""
         if self.is_open(name):
             self.leave(name)
-        if name in self.states or len(self.states) < MOST_SESSIONS:
-            self.states[name], self.keeps[name] = "open", keep
+        if name in self.left or len(self.left) < MOST_SESSIONS:
+            self.left[name], self.keeps[name] = "open", keep
 
     def turn_on(self):
         """Let a turn go by, if one more can."""
         if self.turn == MOST_TURN:
             return
         self.turn += 1
-        for name in [one for one in self.states if not self.is_open(one)]:
-            self.states[name] -= 1
+        for name in [one for one in self.left if not self.is_open(one)]:
+            self.left[name] -= 1
             if name == self.name:
                 self.alone += 1
                 self.needed = max(self.needed, self.alone + 1)
-            if self.states[name] == 0:
-                del self.states[name]
+            if self.left[name] == 0:
+                del self.left[name]
                 # The few turns that were left to it in the house are over, whatever its keep is.
                 self.needed = MOST_TRIED_KEEP + 1 if name == self.name else self.needed
 

@@ -41,6 +41,23 @@ FUNCTIONS = {
     "meshpaths": ("brokers_reached", "paths_between", "rings_of_topic", "comes_to_rest"),
     "meshruns": ("settled_by", "doubling_run", "is_doubling_run"),
     "pools": ("is_pool", "fresh_pool", "key_of", "reader_for", "moved_keys"),
+    "poolevents": ("is_pool_event", "pool_can", "pool_after", "pool_after_all", "pool_told"),
+    "poolfacts": ("where_is", "fair_lag", "slow_in", "share_events"),
+    "lifetales": ("is_tale", "world_of", "told_on", "told_back", "harms_of", "calm_event", "led_calm"),
+    "lifeback": ("are_facts", "facts_hold", "worlds_near", "least_told", "explaining", "explains"),
+    "lifetexts": ("event_text", "tale_text", "read_event", "read_tale"),
+}
+
+# Each class, and what the interface lists for it.
+CLASSES = {
+    "lifevalues": ("Story", (
+        "__init__", "read", "tale", "world", "rest", "faults", "__add__", "__iadd__", "__lshift__", "__rshift__",
+        "__getitem__", "__contains__", "__len__", "__bool__", "__str__", "__iter__", "__eq__",
+    )),
+    "lifebenches": ("Bench", (
+        "__init__", "do", "__iadd__", "undo", "redo", "attempt", "tale", "world", "faults", "lines", "__len__",
+        "__contains__", "__bool__", "__eq__",
+    )),
 }
 
 MESSAGE_ERRORS = (
@@ -59,5 +76,6 @@ def function_of(module, name):
     return getattr(importlib.import_module(f"heardonce.{module}"), name)
 
 
-def all_functions():
-    return {name: function_of(module, name) for module, names in FUNCTIONS.items() for name in names}
+def all_names():
+    names = {name: function_of(module, name) for module, names in FUNCTIONS.items() for name in names}
+    return {**names, **{name: function_of(module, name) for module, (name, _) in CLASSES.items()}}

@@ -6,7 +6,7 @@ import unittest
 
 from heardonce import errors
 from heardonce.errors import HeardError, InvalidOctets, TooMany
-from tests.interface import FUNCTIONS, MESSAGE_ERRORS, function_of
+from tests.interface import CLASSES, FUNCTIONS, MESSAGE_ERRORS, function_of
 
 
 class Errors(unittest.TestCase):
@@ -50,6 +50,14 @@ class Interface(unittest.TestCase):
                 function = function_of(module, name)
                 self.assertTrue(inspect.isfunction(function), name)
                 self.assertEqual(function.__module__, f"heardonce.{module}")
+
+    def test_classes_stand_in_their_files(self):
+        for module, (name, methods) in CLASSES.items():
+            told = function_of(module, name)
+            self.assertTrue(inspect.isclass(told), name)
+            self.assertEqual((told.__module__, told.__bases__), (f"heardonce.{module}", (object,)))
+            for method in methods:
+                self.assertIn(method, vars(told), name)
 
     def test_package_binds_no_names(self):
         package = importlib.import_module("heardonce")

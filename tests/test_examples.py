@@ -4,9 +4,9 @@ import doctest
 import unittest
 from pathlib import Path
 
-from tests.interface import all_functions
+from tests.interface import all_names
 
-MANY_EXAMPLES = 90
+MANY_EXAMPLES = 109
 
 
 class Checker(doctest.OutputChecker):
@@ -22,7 +22,7 @@ class Checker(doctest.OutputChecker):
 class Examples(unittest.TestCase):
     def test_examples(self):
         path = Path(__file__).with_name("examples.txt")
-        test = doctest.DocTestParser().get_doctest(path.read_text(), all_functions(), "examples", str(path), 0)
+        test = doctest.DocTestParser().get_doctest(path.read_text(), all_names(), "examples", str(path), 0)
         told = []
         runner = doctest.DocTestRunner(Checker(test.globs), verbose=False)
         runner.run(test, out=told.append, clear_globs=False)

@@ -1,6 +1,10 @@
 """Any values, and small changes of values, for tests of wrong inputs."""
 
 from heardonce.errors import HeardError, InvalidOctets, TooMany
+from heardonce.lifebenches import Bench
+from heardonce.lifevalues import Story
+
+TALE = ((1, True, True), ("a",), ())
 
 
 def deep(depth):
@@ -14,7 +18,8 @@ def deep(depth):
 ODD_VALUES = (
     None, True, False, -1, 10 ** 119, -(10 ** 119), "\n", "a b", "A", "a//b", "x" * 1000, [], [0], ["a"], ((),),
     (None,), (0, 0), (True,), [()], ("", ""), deep(29), ([],) * 1000, HeardError("a"), InvalidOctets(0), TooMany(12),
-    (HeardError("a"),), ("give", [], {}.get(0)), (("give",), []),
+    (HeardError("a"),), ("give", [], {}.get(0)), (("give",), []), Story(TALE), (Story(TALE),), Bench(TALE),
+    (Bench(TALE), 0),
 )
 
 
