@@ -69,28 +69,35 @@ def facts_hold(world, facts):
     return all_hold(world, facts)
 
 
-def ways_on(world):
-    """The list of the pairs of each event that ways are made of and that can happen, and of the world behind it."""
-    pairs = [(event, behind(world, event)) for event in events_with(world, OTHER_WORDS)]
-    return [pair for pair in pairs if pair[1] is not None]
-
-
 class Near:
     """All worlds behind ways of at most so many events from one, each told by its index."""
 
     def __init__(self, world, most):
         self.most = most
         self.worlds = [world]
-        # For each world from which ways go on, the list of the pairs of each event and of the index behind it.
+        # For each world from which ways go on, the dict of the indices of the worlds next to it, and of the pairs of
+        # the least harm and the event by which it is reached.
         self.nexts = []
         self.find_all()
+
+    def next_to(self, here, indices):
+        """What `nexts` holds for the world with an index; indices are told for the worlds that are new."""
+        world, found = self.worlds[here], {}
+        for event in events_with(world, OTHER_WORDS):
+            after = behind(world, event)
+            if after is not None:
+                at = indices.setdefault(after, len(indices))
+                harm = 1 if is_harm_event(event) else 0
+                if at != here and (at not in found or harm < found[at][0]):
+                    found[at] = (harm, event)
+        return found
 
     def find_all(self):
         indices = {self.worlds[0]: 0}
         for _ in range(self.most):
-            for at in range(len(self.nexts), len(self.worlds)):
-                pairs = ways_on(self.worlds[at])
-                self.nexts.append([(event, indices.setdefault(after, len(indices))) for event, after in pairs])
+            first, end = len(self.nexts), len(self.worlds)
+            for at in range(first, end):
+                self.nexts.append(self.next_to(at, indices))
                 # Told as soon as it is known, as there may be far more.
                 if len(indices) > MOST_WORLDS:
                     raise TooMany(MOST_WORLDS)
@@ -102,12 +109,11 @@ class Near:
         changed = best
         for _ in range(self.most):
             found = {}
-            for at, (harm, way) in changed.items():
-                for event, after in self.nexts[at]:
-                    more = harm + (1 if is_harm_event(event) else 0)
+            for at, (done, way) in changed.items():
+                for after, (harm, event) in self.nexts[at].items():
                     known = found.get(after, best.get(after, None))
-                    if known is None or more < known[0]:
-                        found[after] = (more, way + (event,))
+                    if known is None or done + harm < known[0]:
+                        found[after] = (done + harm, way + (event,))
             best = {**best, **found}
             changed = found
         return best
@@ -132,8 +138,10 @@ def best_explaining(tale, facts, most):
     check_most(most)
     near = Near(world, most)
     best = near.least_ways()
-    found = [best[at] for at, reached in enumerate(near.worlds) if all_hold(reached, facts)]
-    return min(found, key=lambda pair: pair[0], default=None)
+    for at in sorted(list(best), key=lambda index: best[index][0]):
+        if all_hold(near.worlds[at], facts):
+            return best[at]
+    return None
 
 
 def least_told(tale, facts, most):

@@ -6,6 +6,16 @@ from heardonce.events import PLAN_WORDS, behind, events_with
 from heardonce.worlds import is_still
 
 MOST_STATES = 1000
+# The sorts of events for which no harm is needed, told by what is no index of harm.
+FREE = 6
+PLANNED = 7
+
+
+def sort_of(event):
+    """The index of what harm an event needs, or that it is free, or planned."""
+    if event[0] in FREE_WORDS:
+        return FREE
+    return PLANNED if event[0] in PLAN_WORDS else HARM_WORDS.index(event[0])
 
 
 class Worlds:
@@ -34,25 +44,30 @@ class Worlds:
         return self.worlds[place[0]], place[1], place[2]
 
     def ways_from(self, at, plan):
-        """The ascending list of the pairs of each event that can happen, harm or not, and of the world behind it."""
+        """The ascending list of what events can happen, harm or not: the event, the world behind it, and its sort.
+
+        The sort is the index of what harm is needed, or tells that none is, or that the event is planned.
+        """
         if (at, plan) not in self.ways:
             world = self.worlds[at]
             events = sorted(events_with(world, self.words) + list(plan[:1]))
             pairs = [(event, behind(world, event)) for event in events]
-            self.ways[at, plan] = [(event, self.index_of(after)) for event, after in pairs if after is not None]
+            self.ways[at, plan] = [
+                (event, self.index_of(after), sort_of(event)) for event, after in pairs if after is not None
+            ]
         return self.ways[at, plan]
 
     def steps_from(self, place):
         """The ascending list of the pairs of each step of a state, and of the place behind it."""
         at, harm, plan = place
         steps = []
-        for event, after in self.ways_from(at, plan):
-            if event[0] in FREE_WORDS:
+        for event, after, sort in self.ways_from(at, plan):
+            if sort == FREE:
                 steps.append((event, (after, harm, plan)))
-            elif event[0] in PLAN_WORDS:
+            elif sort == PLANNED:
                 steps.append((event, (after, harm, plan[1:])))
-            elif harm[HARM_WORDS.index(event[0])] > 0:
-                steps.append((event, (after, harm_behind(harm, HARM_WORDS.index(event[0])), plan)))
+            elif harm[sort] > 0:
+                steps.append((event, (after, harm_behind(harm, sort), plan)))
         return steps
 
     def signs_of(self, places, steps, sign):

@@ -111,7 +111,8 @@ class Leavings:
         if self.turn == MOST_TURN:
             return
         self.turn += 1
-        for name in [one for one in self.left if not self.is_open(one)]:
+        names = [name for name in self.left if not self.is_open(name)]
+        for name in names:
             self.left[name] -= 1
             if name == self.name:
                 self.alone += 1
