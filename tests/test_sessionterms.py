@@ -132,6 +132,14 @@ class ManySteps(unittest.TestCase):
         self.assertEqual(least_keep(EMPTY, opens[:6] + late[:5] + late[6:], "g"), 0)
 
 
+    def test_turns_that_cannot_be_done(self):
+        for more in range(4):
+            house = (10 ** 6 - more, ())
+            self.assertEqual(least_keep(house, (OPEN, ("shut", "ann")) + (TURN,) * 9, "ann"), 1 + more)
+            left = waiting_house(0, 3)
+            self.assertEqual(least_keep((10 ** 6 - more,) + left[1:], (TURN,) * 9, "ann"), None if more > 2 else 1 + more)
+
+
 class BesideAnotherTelling(unittest.TestCase):
     def test_all_rooms_and_keeps(self):
         dice = random.Random(72)
