@@ -76,7 +76,8 @@ class Worlds:
         if sign == "stuck":
             return [not is_step and not still[place[0]] for place, is_step in zip(places, steps)]
         # Faults come of these parts alone, which are the same in most worlds of a lot.
-        told, found = [(world[4:], tuple([client[3] for client in world[1]])) for world in self.worlds], {}
+        told = [(world[4:], tuple([(client[0], client[3]) for client in world[1]])) for world in self.worlds]
+        found = {}
         for world, parts in zip(self.worlds, told):
             if parts not in found:
                 found[parts] = has_fault(world, sign)

@@ -2,14 +2,14 @@
 
 import unittest
 
-from heardonce.allruns import state_behind
+from heardonce.allruns import has_sign, state_behind
 from heardonce.badruns import shortest_bad
 from heardonce.closedlots import closed_lot, is_closed_lot
 from heardonce.errors import InvalidSign, InvalidState, TooMany
 from heardonce.worlds import fresh_world
 from tests.arguments import ArgumentChecks
 from tests.states import AT_EDGES, GIVE, OTHER, SIGNS, fresh_state, small_states, state_of
-from tests.values import ODD_VALUES, bent
+from tests.values import ODD_VALUES, bent, replaced
 
 NONE = (0,) * 6
 ANN = fresh_world((1, True, True), ("ann",))
@@ -86,6 +86,19 @@ class IsClosedLot(unittest.TestCase):
         self.assertIs(is_closed_lot(calm, "stuck", safe), True)
         self.assertIs(is_closed_lot(calm, "stuck", tuple(sorted(safe + (stuck,)))), False)
         self.assertIs(is_closed_lot(calm, "more", tuple(sorted(safe + (stuck,)))), True)
+
+    def test_worlds_of_other_names(self):
+        # All is the same in both worlds but for who has heard the word: the one to whom it was due, or another one.
+        states = []
+        for names in (("abe", "ann"), ("ann", "zoe")):
+            clients = tuple((name, ((), ()), ((), ()), heard) for name, heard in zip(names, ((), (("t", 1),))))
+            world = fresh_world((1, True, True), names)
+            states.append((replaced(replaced(world, (1,), clients), (4,), (("ann", "paired", "t", 1),)), NONE, ()))
+        for sign in ("more", "less"):
+            self.assertEqual([has_sign(state, sign) for state in states], [False, True])
+            self.assertIs(is_closed_lot(states[0], sign, (states[0],)), True)
+            self.assertIs(is_closed_lot(states[0], sign, tuple(states)), False)
+        self.assertIs(is_closed_lot(states[0], "stuck", tuple(states)), True)
 
     def test_without_the_state_itself(self):
         calm = (ANN, NONE, (GIVE,))

@@ -175,6 +175,16 @@ class Near(unittest.TestCase):
         ))
         self.assertEqual(len(explaining(TALE, facts, 2)), 2)
 
+    def test_longer_ways_to_the_same_world(self):
+        double, coming = ("double", "a", "coming", 0), ("arrive", "a", "coming")
+        tale = ((1, True, True), ("a",), (
+            ("give", "a", "marked", "t", 5), double, double, coming, coming, coming, ("arrive", "a", "going"),
+        ))
+        # Two answers without an entry stand on the line: a stop takes both away, and so do two arrivals.
+        facts = (("frames", 0),)
+        self.assertEqual([least_told(tale, facts, most) for most in range(4)], [None, 1, 0, 0])
+        self.assertEqual(explaining(tale, facts, 3), (("arrive", "a", "going"),) * 2)
+
     def test_nothing_to_explain(self):
         for most in range(4):
             self.assertEqual(least_told(TALE, (), most), 0)

@@ -157,6 +157,21 @@ class Calm(unittest.TestCase):
         self.assertEqual(calm_event(given), ("arrive", "ann", "coming"))
         self.assertEqual(calm_event(happened(given, ("lose", "ann", "coming", 0))), ("again", "ann", "coming", 0))
 
+    def test_entries_of_sessions(self):
+        books = (((1, "marked", "sent", "a", 5), (2, "paired", "let", "a", 6)), (0,), (("light", "a", 1),))
+        for ahead in (False, True):
+            fresh = fresh_world((3, ahead, True), ("ann", "bob"))
+            # What stands in the log alone is not told again.
+            self.assertIsNone(calm_event(replaced(fresh, (2, 1, 3), books[:2] + ((),))))
+            world = replaced(fresh, (2, 1, 2), books[:2] + ((),))
+            self.assertEqual(calm_event(world), ("again", "bob", "going", 1))
+            self.assertEqual(calm_event(replaced(world, (2, 1, 2, 0), books[0][1:])), ("again", "bob", "going", 2))
+            self.assertEqual(calm_event(replaced(fresh, (2, 1, 2), books)), ("pass", "bob"))
+            # A client comes ahead of its session, and both ahead of the next ones.
+            both = replaced(world, (1, 1, 1), ((books[0][1],), ()))
+            self.assertEqual(calm_event(both), ("again", "bob", "coming", 2))
+            self.assertEqual(calm_event(replaced(both, (2, 0, 2), books[:2] + ((),))), ("again", "ann", "going", 1))
+
     def test_what_cannot_happen_is_passed_over(self):
         world = happened_all(fresh_world((8, True, False), ("ann",)), (("give", "ann", "marked", "a", 1),))
         full = happened_all(world, (("double", "ann", "coming", 0),) * 11)

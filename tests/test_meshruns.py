@@ -140,6 +140,19 @@ class Doubling(unittest.TestCase):
             self.assertEqual(sorted(doubling_run(mesh, 6) or ()) == sorted(run), ahead <= 1)
             self.assertIs(is_doubling_run(mesh, run), ahead <= 1)
 
+    def test_words_ahead_on_the_last_bridge(self):
+        for ahead in range(6):
+            mesh = mesh_after_all(TOLD, (("tell", "z", "b"),) * ahead)
+            run = ROUND + (("cross", "z", "x"),) * ahead
+            for most in range(7):
+                self.assertEqual(len(doubling_run(mesh, most) or ()), 3 + ahead if 3 + ahead <= most else 0)
+            self.assertIs(is_doubling_run(mesh, run), 3 + ahead <= 6)
+
+    def test_crossings_alone(self):
+        closed = mesh_after(TOLD, ("part", "x", "y"))
+        self.assertIs(is_doubling_run(closed, (("meet", "x", "y"),) + ROUND), False)
+        self.assertIs(is_doubling_run(mesh_after(closed, ("meet", "x", "y")), ROUND), True)
+
 
 class Arguments(ArgumentChecks, unittest.TestCase):
     def test_wrong_arguments(self):

@@ -137,7 +137,8 @@ class ManySteps(unittest.TestCase):
             house = (10 ** 6 - more, ())
             self.assertEqual(least_keep(house, (OPEN, ("shut", "ann")) + (TURN,) * 9, "ann"), 1 + more)
             left = waiting_house(0, 3)
-            self.assertEqual(least_keep((10 ** 6 - more,) + left[1:], (TURN,) * 9, "ann"), None if more > 2 else 1 + more)
+            keep = None if more > 2 else 1 + more
+            self.assertEqual(least_keep((10 ** 6 - more,) + left[1:], (TURN,) * 9, "ann"), keep)
 
 
 class BesideAnotherTelling(unittest.TestCase):

@@ -89,7 +89,8 @@ class Yards(unittest.TestCase):
         self.check_bounds((
             ((3, 0, 1, 5), 1, True), ((3, 0, 1, 5), 2, True), ((3, 0, 1, 5), 3, False), ((3, 0, 1, 5), 0, False),
             ((3, 1, 1, 5), 3, True), ((3, 1, 1, 5), 4, False), ((3, 0, 0), "loop", True), ((3, 0, 0), "own", False),
-            ((3, 0, 0), "zoe", False), ((3, 0, 1, 4), 0, True), ((3, 0, 1, 4), 9, True), ((3, 0, 1, 4), 10, False),
+            ((3, 0, 1, 1), 3, True), ((3, 0, 1, 1), 4, False), ((3, 0, 0), "zoe", False), ((3, 0, 1, 4), 0, True),
+            ((3, 0, 1, 4), 9, True), ((3, 0, 1, 4), 10, False),
             ((3, 0, 1, 6), (("dead", "full"),) * 2, False), ((3, 0, 1, 6), (("dead", "full"), ("dead", "old")), True),
         ))
 
