@@ -100,6 +100,18 @@ class IsClosedLot(unittest.TestCase):
             self.assertIs(is_closed_lot(states[0], sign, tuple(states)), False)
         self.assertIs(is_closed_lot(states[0], "stuck", tuple(states)), True)
 
+    def test_worlds_that_are_the_same_but_for_one_part(self):
+        clients = (("ann", ((), ()), ((), ()), (("t", 1),)),)
+        word = ("ann", "paired", "t", 1)
+        calm = replaced(replaced(ANN, (1,), clients), (4,), (word,))
+        for path, part, signs in (
+            ((4,), (), ("more",)), ((4,), (word, word), ("less",)), ((5,), (word,), ("less",)),
+            ((6,), (word,), ("more",)), ((1, 0, 3), (), ("less",)), ((1, 0, 3), (("t", 1),) * 2, ("more",)),
+        ):
+            states = ((calm, NONE, ()), (replaced(calm, path, part), NONE, ()))
+            for sign in ("more", "less"):
+                self.assertIs(is_closed_lot(states[0], sign, tuple(sorted(states))), sign not in signs)
+
     def test_without_the_state_itself(self):
         calm = (ANN, NONE, (GIVE,))
         rest = (ANN, NONE, ())

@@ -118,7 +118,7 @@ class Shifted(unittest.TestCase):
         for _ in range(30):
             tale = some_tale(dice)
             story = Story(tale)
-            for many in (0, 1, len(tale[2]) // 2, len(tale[2])):
+            for many in sorted({0, len(tale[2]) // 3, len(tale[2]) // 2, len(tale[2])}):
                 self.assertEqual((story << many).tale, told_back(tale, many))
                 self.assertEqual((story << many).world, Story(told_back(tale, many)).world)
             for most in (0, 1, 5, 200):

@@ -148,6 +148,15 @@ class Doubling(unittest.TestCase):
                 self.assertEqual(len(doubling_run(mesh, most) or ()), 3 + ahead if 3 + ahead <= most else 0)
             self.assertIs(is_doubling_run(mesh, run), 3 + ahead <= 6)
 
+    def test_full_logs(self):
+        others = tuple(("y", number, "a", "") for number in range(59))
+        for more, run in ((0, (("cross", "x", "y"),)), (1, None)):
+            log = (("x", 0, "a", "x"),) + others[:58 + more]
+            mesh = (("none", "kept"), (("x", (("x", 0, "a", ""),)), ("y", log)), (("x", "y", "#", True, 0),))
+            self.assertEqual(len(log), 59 + more)
+            self.assertEqual(doubling_run(mesh, 6), run)
+            self.assertIs(is_doubling_run(mesh, (("cross", "x", "y"),)), run is not None)
+
     def test_crossings_alone(self):
         closed = mesh_after(TOLD, ("part", "x", "y"))
         self.assertIs(is_doubling_run(closed, (("meet", "x", "y"),) + ROUND), False)

@@ -131,7 +131,6 @@ class ManySteps(unittest.TestCase):
         self.assertEqual(least_keep(EMPTY, opens + late, "g"), 3)
         self.assertEqual(least_keep(EMPTY, opens[:6] + late[:5] + late[6:], "g"), 0)
 
-
     def test_turns_that_cannot_be_done(self):
         for more in range(4):
             house = (10 ** 6 - more, ())
