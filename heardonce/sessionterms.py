@@ -9,30 +9,23 @@ MOST_TRIED_KEEP = 60
 UNENDING = 1000
 
 
-def with_item(row, at, item):
-    return row[:at] + (item,) + row[at + 1:]
+def with_room(terms, room):
+    keep, _, rule, last = terms
+    return keep, room, rule, last
 
 
-def steps_with(steps, name, at, item):
-    """The steps with an item of all terms of a name in them replaced."""
+def steps_with_room(steps, name, room):
+    """The steps with the room of all terms of a name in them replaced."""
     return [
-        step[:3] + (with_item(step[3], at, item),) if step[0] == "open" and step[1] == name else step
-        for step in steps
+        step[:3] + (with_room(step[3], room),) if step[0] == "open" and step[1] == name else step for step in steps
     ]
 
 
-def session_with(session, at, item):
-    """A session with an item of its terms replaced; if it is not open, no more turns are left than its keep tells."""
-    name, state, terms, wishes, waits = session
-    terms = with_item(terms, at, item)
-    state = state if state == "open" else min(state, terms[0])
-    return name, state, terms, wishes, waits
-
-
-def house_with(house, name, at, item):
-    """The house with an item of the terms of a session replaced, if there is this session."""
+def house_with_room(house, name, room):
+    """The house with the room of a session replaced, if there is this session."""
     return house[0], tuple([
-        session_with(session, at, item) if session[0] == name else session for session in house[1]
+        session[:2] + (with_room(session[2], room),) + session[3:] if session[0] == name else session
+        for session in house[1]
     ])
 
 
@@ -49,7 +42,7 @@ def done_steps(house, steps):
 
 def has_room(house, steps, name, room):
     """Tell whether with a room no word of a session name is dropped for room."""
-    done = done_steps(house_with(house, name, 1, room), steps_with(steps, name, 1, room))
+    done = done_steps(house_with_room(house, name, room), steps_with_room(steps, name, room))
     return not any([one[:3] == ("dropped", name, "room") for _, told in done for one in told])
 
 

@@ -131,6 +131,12 @@ class ManySteps(unittest.TestCase):
         self.assertEqual(least_keep(EMPTY, opens + late, "g"), 3)
         self.assertEqual(least_keep(EMPTY, opens[:6] + late[:5] + late[6:], "g"), 0)
 
+    def test_a_name_that_comes_back_among_six(self):
+        opens = tuple(("open", name, False, (5, 1, "elder", None)) for name in "abcdef")
+        back = (("shut", "a"), TURN, opens[0], TURN, TURN, TURN)
+        self.assertEqual(least_keep(EMPTY, opens + back, "a"), 2)
+        self.assertEqual(least_keep(EMPTY, opens + back[:2] + (("open", "g", False, opens[0][3]),) + back[3:], "a"), 5)
+
     def test_turns_that_cannot_be_done(self):
         for more in range(4):
             house = (10 ** 6 - more, ())
@@ -162,6 +168,22 @@ class BesideAnotherTelling(unittest.TestCase):
             told = told_leaving_out(*changed_terms(house, steps, name, 1, more))
             dropped = [one for _, _, said in told for one in said if one[:3] == ("dropped", name, "room")]
             self.assertEqual(dropped, [])
+
+    def test_more_names_than_there_may_be_sessions(self):
+        dice = random.Random(74)
+        found = set()
+        for _ in range(40):
+            steps = []
+            for _ in range(dice.randrange(20, 61)):
+                word, name = dice.choice(("open", "open", "shut", "break", "turn")), dice.choice("abcdefgh")
+                terms = (dice.choice((0, 1, 1, 2, 3)), 1, "elder", None)
+                step = ("open", name, dice.randrange(3) == 0, terms) if word == "open" else (word, name)
+                steps.append(TURN if word == "turn" else step)
+            name = dice.choice("abcdefgh")
+            keep = least_keep(EMPTY, tuple(steps), name)
+            self.assertEqual(keep, least_keep_told(EMPTY, steps, name))
+            found.add(keep)
+        self.assertGreater(len(found), 4)
 
     def test_few_names_and_long_runs(self):
         dice = random.Random(73)
