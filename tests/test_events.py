@@ -277,6 +277,16 @@ class EachEvent(unittest.TestCase):
         self.check_event({**before, WAITING: (("light", "b", 2),) * 12}, event, None)
         self.check_event({**before, DUE: (told,) * 100}, event, None)
         self.check_event({**before, OWNED: (told,) * 100}, event, None)
+        own = ("ann", "light", "a", 1)
+        self.check_event({COMING: (light(),), OWNED: (told,) * 100}, event, None)
+        waiting = (("light", "b", 2),) * 11
+        self.check_event({**before, OWNED: (told,) * 99, DUE: (told,) * 99, WAITING: waiting}, event, {
+            COMING: (), OWNED: (told,) * 99 + (own,), DUE: (told,) * 99 + (own,),
+            WAITING: waiting + (("light", "a", 1),),
+        })
+        given = ("give",) + own
+        self.check_event({GIVEN: (told,) * 100}, given, None)
+        self.check_event({GIVEN: (told,) * 99}, given, {GIVEN: (told,) * 99 + (own,), COMING: (light(),)})
         two = {**before, (2, 1, 1): (("#", "light"),), DUE: (told,) * 99}
         self.check_event(two, event, None)
         self.check_event({COMING: (light(),), DUE: (told,) * 100, WAITING: (("light", "b", 2),) * 12}, event, {
