@@ -48,9 +48,10 @@ class Bench:
         self._tell_on((event,), world_after(ahead, event))
         return self._world != ahead
 
-    def __iadd__(self, events):
-        check_events(events, MOST_EVENTS)
-        self._tell_on(events, after_all(self._world, events))
+    def __iadd__(self, other):
+        """The bench itself, with some events told on as one call."""
+        check_events(other, MOST_EVENTS)
+        self._tell_on(other, after_all(self._world, other))
         return self
 
     def undo(self):
@@ -89,8 +90,8 @@ class Bench:
         for event in self._tale[2]:
             yield text_of_event(event) + ("*" if is_harm_event(event) else "")
 
-    def __contains__(self, value):
-        return is_event(value) and behind(self._world, value) is not None
+    def __contains__(self, x):
+        return is_event(x) and behind(self._world, x) is not None
 
     def __len__(self):
         return len(self._done)

@@ -40,21 +40,25 @@ class Story:
         """The tuple of the faults of the world."""
         return tuple(all_faults(self._world))
 
-    def __add__(self, event):
-        world_after(self._world, event)
-        return Story(with_events(self._tale, (event,)))
+    def __add__(self, other):
+        """The story with an event more."""
+        world_after(self._world, other)
+        return Story(with_events(self._tale, (other,)))
 
-    def __iadd__(self, event):
-        world = world_after(self._world, event)
-        self._tale = with_events(self._tale, (event,))
+    def __iadd__(self, other):
+        """The story itself, with an event more from now on."""
+        world = world_after(self._world, other)
+        self._tale = with_events(self._tale, (other,))
         self._world = world
         return self
 
-    def __lshift__(self, many):
-        return Story(told_back(self._tale, many))
+    def __lshift__(self, other):
+        """The story without its last events, so many."""
+        return Story(told_back(self._tale, other))
 
-    def __rshift__(self, most):
-        return Story(led_calm(self._tale, most))
+    def __rshift__(self, other):
+        """The story with calm events behind it, at most so many."""
+        return Story(led_calm(self._tale, other))
 
     def __getitem__(self, at):
         if not is_integer(at, 0, len(self._tale[2]) - 1):
@@ -64,8 +68,8 @@ class Story:
     def __iter__(self):
         raise TypeError("a story is not iterated over")
 
-    def __contains__(self, value):
-        return is_event(value) and behind(self._world, value) is not None
+    def __contains__(self, x):
+        return is_event(x) and behind(self._world, x) is not None
 
     def __len__(self):
         return len(self._tale[2])
